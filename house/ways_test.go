@@ -1,0 +1,121 @@
+package house
+
+import (
+	"go/ast"
+	"go/token"
+	"testing"
+)
+
+// function: a function of a package by its name.
+func function(t *testing.T, pack, name string) *ast.FuncDecl {
+	t.Helper()
+	for _, s := range sources(t, token.NewFileSet(), pack) {
+		for _, d := range s.file.Decls {
+			if f, ok := d.(*ast.FuncDecl); ok && f.Name.Name == name {
+				return f
+			}
+		}
+	}
+	t.Fatalf("package %s has no %s", pack, name)
+	return nil
+}
+
+// has: is there a node below this one of which that holds?
+func has(n ast.Node, holds func(ast.Node) bool) bool {
+	found := false
+	ast.Inspect(n, func(n ast.Node) bool {
+		found = found || n != nil && holds(n)
+		return !found
+	})
+	return found
+}
+
+// isLoop: is it a loop?
+func isLoop(n ast.Node) bool {
+	switch n.(type) {
+	case *ast.ForStmt, *ast.RangeStmt:
+		return true
+	}
+	return false
+}
+
+// leaves: does it break off that label's loop?
+func leaves(label string) func(ast.Node) bool {
+	return func(n ast.Node) bool {
+		b, ok := n.(*ast.BranchStmt)
+		return ok && b.Tok == token.BREAK && b.Label != nil && b.Label.Name == label
+	}
+}
+
+// overLength: is it a range over how many places a text has?
+func overLength(n ast.Node) bool {
+	r, ok := n.(*ast.RangeStmt)
+	if !ok {
+		return false
+	}
+	c, ok := r.X.(*ast.CallExpr)
+	if !ok {
+		return false
+	}
+	name, ok := c.Fun.(*ast.Ident)
+	return ok && name.Name == "len"
+}
+
+// Stage 1: base sixteen is read in a loop within a loop, left by a label.
+func TestBaseSixteenIsLeftByLabel(t *testing.T) {
+	nested := func(n ast.Node) bool {
+		l, ok := n.(*ast.LabeledStmt)
+		if !ok || !isLoop(l.Stmt) {
+			return false
+		}
+		inner := func(m ast.Node) bool {
+			return m != l.Stmt && isLoop(m) && has(m, leaves(l.Label.Name))
+		}
+		return has(l.Stmt, inner)
+	}
+	if !has(function(t, "word", "Unhex"), nested) {
+		t.Error("Unhex has no loop within a loop that a label leaves")
+	}
+}
+
+// Stage 1: kinds of numbers are numbered by iota.
+func TestKindsAreNumberedByIota(t *testing.T) {
+	numbered := func(n ast.Node) bool {
+		d, ok := n.(*ast.GenDecl)
+		return ok && d.Tok == token.CONST && len(d.Specs) == 7 && has(d, func(m ast.Node) bool {
+			name, ok := m.(*ast.Ident)
+			return ok && name.Name == "iota"
+		})
+	}
+	found := false
+	for _, s := range sources(t, token.NewFileSet(), "real") {
+		found = found || has(s.file, numbered)
+	}
+	if !found {
+		t.Error("real's seven kinds aren't numbered by iota")
+	}
+}
+
+// Stage 1: texts are gone through by their places.
+func TestTextsAreGoneThroughByPlaces(t *testing.T) {
+	for _, name := range []string{"Get", "Number", "Hex", "Unhex"} {
+		if !has(function(t, "word", name), overLength) {
+			t.Errorf("%s doesn't go through places", name)
+		}
+	}
+}
+
+// Stage 1: sizes come as many as one likes.
+func TestSizesAreVariadic(t *testing.T) {
+	variadic := func(n ast.Node) bool {
+		e, ok := n.(*ast.Ellipsis)
+		return ok && e.Elt != nil
+	}
+	for pack, names := range map[string][]string{"word": {"Cut"}, "real": {"Least", "Most"}} {
+		for _, name := range names {
+			if !has(function(t, pack, name).Type, variadic) {
+				t.Errorf("%s isn't variadic", name)
+			}
+		}
+	}
+}
