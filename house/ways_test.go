@@ -47,6 +47,44 @@ func leaves(label string) func(ast.Node) bool {
 	}
 }
 
+// continues: does it go on with that label's loop?
+func continues(label string) func(ast.Node) bool {
+	return func(n ast.Node) bool {
+		b, ok := n.(*ast.BranchStmt)
+		return ok && b.Tok == token.CONTINUE && b.Label != nil && b.Label.Name == label
+	}
+}
+
+// loopContinued: is it a loop that its label continues?
+func loopContinued(n ast.Node) bool {
+	l, ok := n.(*ast.LabeledStmt)
+	return ok && isLoop(l.Stmt) && has(l.Stmt, continues(l.Label.Name))
+}
+
+// isArray: is it an array's type?
+func isArray(n ast.Node) bool {
+	a, ok := n.(*ast.ArrayType)
+	return ok && a.Len != nil
+}
+
+// calling: is it a call of that name?
+func calling(name string) func(ast.Node) bool {
+	return func(n ast.Node) bool {
+		c, ok := n.(*ast.CallExpr)
+		if !ok {
+			return false
+		}
+		f, ok := c.Fun.(*ast.Ident)
+		return ok && f.Name == name
+	}
+}
+
+// isVariadic: is it a parameter that comes as often as one likes?
+func isVariadic(n ast.Node) bool {
+	e, ok := n.(*ast.Ellipsis)
+	return ok && e.Elt != nil
+}
+
 // overLength: is it a range over how many places a text has?
 func overLength(n ast.Node) bool {
 	r, ok := n.(*ast.RangeStmt)
@@ -107,13 +145,39 @@ func TestTextsAreGoneThroughByPlaces(t *testing.T) {
 
 // Stage 1: sizes come as many as one likes.
 func TestSizesAreVariadic(t *testing.T) {
-	variadic := func(n ast.Node) bool {
-		e, ok := n.(*ast.Ellipsis)
-		return ok && e.Elt != nil
-	}
 	for pack, names := range map[string][]string{"word": {"Cut"}, "real": {"Least", "Most"}} {
 		for _, name := range names {
-			if !has(function(t, pack, name).Type, variadic) {
+			if !has(function(t, pack, name).Type, isVariadic) {
+				t.Errorf("%s isn't variadic", name)
+			}
+		}
+	}
+}
+
+// Stage 2: the primes are sought in a loop that a label continues.
+func TestPrimesAreSoughtByLabel(t *testing.T) {
+	if !has(function(t, "sha", "primes"), loopContinued) {
+		t.Error("primes has no loop that a label continues")
+	}
+}
+
+// Stage 2: blocks and words are arrays, filled by copy.
+func TestBlocksAreArraysFilledByCopy(t *testing.T) {
+	for pack, names := range map[string][]string{"sha": {"blockAt", "drawn"}, "hmac": {"keyBlock"}} {
+		for _, name := range names {
+			f := function(t, pack, name)
+			if !has(f.Type.Results, isArray) || !has(f.Body, calling("copy")) {
+				t.Errorf("%s of %s answers no array that copy fills", name, pack)
+			}
+		}
+	}
+}
+
+// Stage 2: parts come as many as one likes.
+func TestPartsAreVariadic(t *testing.T) {
+	for pack, names := range map[string][]string{"sha": {"Sum", "Text"}, "hmac": {"Sum"}} {
+		for _, name := range names {
+			if !has(function(t, pack, name).Type, isVariadic) {
 				t.Errorf("%s isn't variadic", name)
 			}
 		}
