@@ -61,6 +61,18 @@ func loopContinued(n ast.Node) bool {
 	return ok && isLoop(l.Stmt) && has(l.Stmt, continues(l.Label.Name))
 }
 
+// loopLeft: is it a loop that its label leaves?
+func loopLeft(n ast.Node) bool {
+	l, ok := n.(*ast.LabeledStmt)
+	return ok && isLoop(l.Stmt) && has(l.Stmt, leaves(l.Label.Name))
+}
+
+// isClosure: is it a function within another one?
+func isClosure(n ast.Node) bool {
+	_, ok := n.(*ast.FuncLit)
+	return ok
+}
+
 // isArray: is it an array's type?
 func isArray(n ast.Node) bool {
 	a, ok := n.(*ast.ArrayType)
@@ -180,6 +192,23 @@ func TestPartsAreVariadic(t *testing.T) {
 			if !has(function(t, pack, name).Type, isVariadic) {
 				t.Errorf("%s isn't variadic", name)
 			}
+		}
+	}
+}
+
+// Stage 3: the box is made in a loop that is left by a label.
+func TestBoxIsLeftByLabel(t *testing.T) {
+	if !has(function(t, "aes", "Box"), loopLeft) {
+		t.Error("Box has no loop that a label leaves")
+	}
+}
+
+// Stage 3: a column's byte is a closure's, the column an array that copy fills.
+func TestColumnsByteIsClosures(t *testing.T) {
+	f := function(t, "aes", "mixed")
+	for what, holds := range map[string]func(ast.Node) bool{"closure": isClosure, "array": isArray, "copy": calling("copy")} {
+		if !has(f.Body, holds) {
+			t.Errorf("mixed has no %s", what)
 		}
 	}
 }
