@@ -212,3 +212,27 @@ func TestColumnsByteIsClosures(t *testing.T) {
 		}
 	}
 }
+
+// Stage 4: buffers are arrays, found by a closure.
+func TestBuffersAreArraysFoundByClosure(t *testing.T) {
+	found := false
+	for _, s := range sources(t, token.NewFileSet(), "pool") {
+		found = found || has(s.file, isArray)
+	}
+	if !found {
+		t.Error("pool's buffers aren't arrays")
+	}
+	if !has(function(t, "pool", "Get").Body, isClosure) {
+		t.Error("Get finds no buffer by a closure")
+	}
+}
+
+// Stage 4: buffers are cleared whole, and filled by copy.
+func TestBuffersAreCleared(t *testing.T) {
+	f := function(t, "pool", "fill")
+	for _, name := range []string{"clear", "copy"} {
+		if !has(f.Body, calling(name)) {
+			t.Errorf("fill has no %s", name)
+		}
+	}
+}
