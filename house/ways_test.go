@@ -236,3 +236,26 @@ func TestBuffersAreCleared(t *testing.T) {
 		}
 	}
 }
+
+// Stage 5: parts are held against each other whole.
+func TestPartsAreComparedWhole(t *testing.T) {
+	whole := func(n ast.Node) bool {
+		b, ok := n.(*ast.BinaryExpr)
+		return ok && b.Op == token.EQL && calling("unstamped")(b.X) && calling("unstamped")(b.Y)
+	}
+	if !has(function(t, "frag", "with").Body, whole) {
+		t.Error("with doesn't hold parts against each other whole")
+	}
+}
+
+// Stage 5: parts that came are copied.
+func TestPartsAreCopied(t *testing.T) {
+	if !has(function(t, "frag", "copied").Body, calling("copy")) {
+		t.Error("copied has no copy")
+	}
+	for _, name := range []string{"with", "Add"} {
+		if !has(function(t, "frag", name).Body, calling("copied")) {
+			t.Errorf("%s copies no parts", name)
+		}
+	}
+}
