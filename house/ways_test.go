@@ -259,3 +259,46 @@ func TestPartsAreCopied(t *testing.T) {
 		}
 	}
 }
+
+// Stage 6: output is gone through byte by byte, and what changes nothing continues at the loop's label.
+func TestOutputContinuesAtLabel(t *testing.T) {
+	byBytes := func(n ast.Node) bool {
+		l, ok := n.(*ast.LabeledStmt)
+		return ok && loopContinued(l) && overLength(l.Stmt)
+	}
+	if !has(function(t, "screen", "Put").Body, byBytes) {
+		t.Error("Put has no loop over output's bytes that a label continues")
+	}
+}
+
+// Stage 6: screens are compared whole.
+func TestScreensAreComparedWhole(t *testing.T) {
+	f := function(t, "screen", "Same")
+	names := map[string]int{}
+	for _, p := range f.Type.Params.List {
+		for _, name := range p.Names {
+			names[name.Name] = 1
+		}
+	}
+	whole := func(n ast.Node) bool {
+		b, ok := n.(*ast.BinaryExpr)
+		if !ok || b.Op != token.EQL {
+			return false
+		}
+		x, isName := b.X.(*ast.Ident)
+		y, areNames := b.Y.(*ast.Ident)
+		return isName && areNames && names[x.Name]+names[y.Name] == 2
+	}
+	if !has(f.Body, whole) {
+		t.Error("Same doesn't compare screens whole")
+	}
+}
+
+// Stage 6: rows that go up, and runs that are laid over a screen, are copied.
+func TestPlacesAreCopied(t *testing.T) {
+	for pack, name := range map[string]string{"screen": "nextRow", "delta": "write"} {
+		if !has(function(t, pack, name).Body, calling("copy")) {
+			t.Errorf("%s of %s has no copy", name, pack)
+		}
+	}
+}
