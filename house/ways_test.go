@@ -302,3 +302,26 @@ func TestPlacesAreCopied(t *testing.T) {
 		}
 	}
 }
+
+// isFloat: is it the type of a number with a point?
+func isFloat(n ast.Node) bool {
+	name, ok := n.(*ast.Ident)
+	return ok && name.Name == "float64"
+}
+
+// Stage 7: means and jitters are floats.
+func TestMeansAndJittersAreFloats(t *testing.T) {
+	for _, name := range []string{"Mean", "Jitter"} {
+		f := function(t, "clock", name)
+		if !has(f.Type.Results, isFloat) || !has(f.Body, calling("float64")) {
+			t.Errorf("%s isn't reckoned in floats", name)
+		}
+	}
+}
+
+// Stage 7: means are of as many numbers as one likes.
+func TestMeansAreVariadic(t *testing.T) {
+	if !has(function(t, "clock", "Mean").Type, isVariadic) {
+		t.Error("Mean isn't variadic")
+	}
+}
