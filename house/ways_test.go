@@ -325,3 +325,59 @@ func TestMeansAreVariadic(t *testing.T) {
 		t.Error("Mean isn't variadic")
 	}
 }
+
+// genericType: is it a type of that name, of whatever other type?
+func genericType(name string) func(ast.Node) bool {
+	return func(n ast.Node) bool {
+		s, ok := n.(*ast.TypeSpec)
+		return ok && s.Name.Name == name && s.TypeParams != nil
+	}
+}
+
+// isRule: is it a generic type of functions alone?
+func isRule(n ast.Node) bool {
+	s, ok := n.(*ast.TypeSpec)
+	if !ok || !genericType("Rule")(s) {
+		return false
+	}
+	fields, ok := s.Type.(*ast.StructType)
+	if !ok {
+		return false
+	}
+	for _, f := range fields.Fields.List {
+		if _, ok := f.Type.(*ast.FuncType); !ok {
+			return false
+		}
+	}
+	return fields.Fields.NumFields() > 0
+}
+
+// Stage 8: senders and receivers are generic in their states, their rules functions in fields.
+func TestSendersAndReceiversAreGeneric(t *testing.T) {
+	for pack, name := range map[string]string{"sender": "Sender", "receiver": "Receiver"} {
+		generic, ruled := false, false
+		for _, s := range sources(t, token.NewFileSet(), pack) {
+			generic = generic || has(s.file, genericType(name))
+			ruled = ruled || has(s.file, isRule)
+		}
+		if !generic || !ruled || function(t, pack, "New").Type.TypeParams == nil {
+			t.Errorf("%s isn't generic, by a rule of functions", name)
+		}
+	}
+}
+
+// Stage 8: who is let go is found in a loop that is left by a label.
+func TestWhoIsLetGoIsLeftByLabel(t *testing.T) {
+	for pack, name := range map[string]string{"sender": "Acked", "receiver": "kept"} {
+		if !has(function(t, pack, name).Body, loopLeft) {
+			t.Errorf("%s of %s has no loop that a label leaves", name, pack)
+		}
+	}
+}
+
+// Stage 8: a number's place is found by a closure.
+func TestPlaceIsFoundByClosure(t *testing.T) {
+	if !has(function(t, "receiver", "place").Body, isClosure) {
+		t.Error("place has no closure")
+	}
+}
