@@ -22,6 +22,11 @@ const root = ".."
 // layers: the packages of the map, from layer 1 on.
 const layers = "word real sha hmac aes ctr seal pool wire frag screen delta keys clock sender receiver session client wheel table inbox batch actor reap drain daemon line world live gauge script report audit stat"
 
+// packages: the layers, and ahead of the layers that are made of it the package that isn't one.
+func packages() []string {
+	return strings.Fields(strings.Replace(layers, " session ", " end session ", 1))
+}
+
 // library: the packages of Go's that the program may import.
 const library = "bytes cmp container/heap errors iter maps math math/bits slices sort strconv strings sync sync/atomic unicode unicode/utf8"
 
@@ -74,7 +79,7 @@ func imports(t *testing.T, s source) []string {
 func TestImports(t *testing.T) {
 	fset := token.NewFileSet()
 	lower := []string{"vagabond/api"}
-	for _, name := range strings.Fields(layers) {
+	for _, name := range packages() {
 		for _, s := range sources(t, fset, name) {
 			for _, path := range imports(t, s) {
 				if !slices.Contains(lower, path) && !slices.Contains(strings.Fields(library), path) {
@@ -89,7 +94,7 @@ func TestImports(t *testing.T) {
 // The program has neither directives nor build tags, is laid out by gofmt, and its functions are short.
 func TestLanguage(t *testing.T) {
 	fset := token.NewFileSet()
-	for _, name := range append(strings.Fields(layers), "api") {
+	for _, name := range append(packages(), "api") {
 		for _, s := range sources(t, fset, name) {
 			for _, mark := range []string{"//go:", "// +build", "/*line", "//line"} {
 				if strings.Contains(s.text, mark) {

@@ -381,3 +381,71 @@ func TestPlaceIsFoundByClosure(t *testing.T) {
 		t.Error("place has no closure")
 	}
 }
+
+// ofPackage: is it that name of that package, of whatever types?
+func ofPackage(pack, name string) func(ast.Node) bool {
+	return func(n ast.Node) bool {
+		var x ast.Expr
+		switch i := n.(type) {
+		case *ast.IndexExpr:
+			x = i.X
+		case *ast.IndexListExpr:
+			x = i.X
+		}
+		s, ok := x.(*ast.SelectorExpr)
+		if !ok || s.Sel.Name != name {
+			return false
+		}
+		from, ok := s.X.(*ast.Ident)
+		return ok && from.Name == pack
+	}
+}
+
+// Stage 9: both ends are made of generic senders and receivers.
+func TestEndsAreGeneric(t *testing.T) {
+	found := map[string]int{}
+	for _, s := range sources(t, token.NewFileSet(), "end") {
+		ast.Inspect(s.file, func(n ast.Node) bool {
+			if n == nil || !genericType("End")(n) {
+				return true
+			}
+			for pack, name := range map[string]string{"sender": "Sender", "receiver": "Receiver"} {
+				if has(n, ofPackage(pack, name)) {
+					found[pack]++
+				}
+			}
+			return false
+		})
+	}
+	if found["sender"] != 1 || found["receiver"] != 1 {
+		t.Error("End isn't a generic type made of a sender and a receiver")
+	}
+	for pack, name := range map[string]string{"session": "Session", "client": "Client"} {
+		made := false
+		for _, s := range sources(t, token.NewFileSet(), pack) {
+			made = made || has(s.file, func(n ast.Node) bool {
+				d, ok := n.(*ast.TypeSpec)
+				return ok && d.Name.Name == name && has(d, ofPackage("end", "End"))
+			})
+		}
+		if !made {
+			t.Errorf("%s isn't made of an End", name)
+		}
+	}
+}
+
+// Stage 9: both ends go by rules that are functions in fields.
+func TestEndsGoByRules(t *testing.T) {
+	for _, pack := range []string{"session", "client"} {
+		f := function(t, pack, "New")
+		for _, of := range []string{"sender", "receiver"} {
+			ruled := func(n ast.Node) bool {
+				c, ok := n.(*ast.CompositeLit)
+				return ok && len(c.Elts) > 0 && c.Type != nil && ofPackage(of, "Rule")(c.Type)
+			}
+			if !has(f.Body, ruled) {
+				t.Errorf("New of %s makes no rule of a %s", pack, of)
+			}
+		}
+	}
+}
