@@ -449,3 +449,146 @@ func TestEndsGoByRules(t *testing.T) {
 		}
 	}
 }
+
+// isMap: is it a map's type?
+func isMap(n ast.Node) bool {
+	_, ok := n.(*ast.MapType)
+	return ok
+}
+
+// typeOf: what a package's type of that name is made of.
+func typeOf(t *testing.T, pack, name string) ast.Expr {
+	t.Helper()
+	for _, s := range sources(t, token.NewFileSet(), pack) {
+		for _, d := range s.file.Decls {
+			g, ok := d.(*ast.GenDecl)
+			if !ok {
+				continue
+			}
+			for _, spec := range g.Specs {
+				if ts, ok := spec.(*ast.TypeSpec); ok && ts.Name.Name == name {
+					return ts.Type
+				}
+			}
+		}
+	}
+	t.Fatalf("package %s has no type %s", pack, name)
+	return nil
+}
+
+// arrayOf: is it an array of things of that name?
+func arrayOf(name string) func(ast.Node) bool {
+	return func(n ast.Node) bool {
+		a, ok := n.(*ast.ArrayType)
+		if !ok || a.Len == nil {
+			return false
+		}
+		of, ok := a.Elt.(*ast.Ident)
+		return ok && of.Name == name
+	}
+}
+
+// rangesOver: is it a range over a name?
+func rangesOver(name string) func(ast.Node) bool {
+	return func(n ast.Node) bool {
+		r, ok := n.(*ast.RangeStmt)
+		if !ok {
+			return false
+		}
+		over, ok := r.X.(*ast.Ident)
+		return ok && over.Name == name
+	}
+}
+
+// Stage 10: slots are maps, in an array of wheels.
+func TestSlotsAreMapsInAnArrayOfWheels(t *testing.T) {
+	if !isMap(typeOf(t, "wheel", "slot")) {
+		t.Error("a slot isn't a map")
+	}
+	if !arrayOf("slot")(typeOf(t, "wheel", "ring")) || !has(typeOf(t, "wheel", "Wheel"), arrayOf("ring")) {
+		t.Error("a wheel isn't an array of arrays of slots")
+	}
+}
+
+// Stage 10: slots are gone through, deleted from, cleared.
+func TestSlotsAreGoneThroughDeletedFromCleared(t *testing.T) {
+	for name, holds := range map[string]func(ast.Node) bool{"listed": rangesOver("timers"), "least": rangesOver("s"), "Cancel": calling("delete"), "enter": calling("clear")} {
+		if !has(function(t, "wheel", name).Body, holds) {
+			t.Errorf("%s of wheel doesn't do so with a slot", name)
+		}
+	}
+}
+
+// Stage 10: wheels are advanced in a loop that has a label.
+func TestWheelsAdvanceByLabel(t *testing.T) {
+	f := function(t, "wheel", "Advance")
+	if !has(f.Body, loopLeft) || !has(f.Body, loopContinued) {
+		t.Error("Advance has no loop that a label leaves and continues")
+	}
+}
+
+// ofLibrary: is it that name of a package of the library?
+func ofLibrary(pack, name string) func(ast.Node) bool {
+	return func(n ast.Node) bool {
+		s, ok := n.(*ast.SelectorExpr)
+		if !ok || s.Sel.Name != name {
+			return false
+		}
+		from, ok := s.X.(*ast.Ident)
+		return ok && from.Name == pack
+	}
+}
+
+// embeds: is it made of what embeds a mutex?
+func embeds(n ast.Node) bool {
+	f, ok := n.(*ast.Field)
+	return ok && len(f.Names) == 0 && ofLibrary("sync", "Mutex")(f.Type)
+}
+
+// isUnlockDeferred: is a lock let go by defer, promoted?
+func isUnlockDeferred(n ast.Node) bool {
+	d, ok := n.(*ast.DeferStmt)
+	if !ok {
+		return false
+	}
+	f, ok := d.Call.Fun.(*ast.SelectorExpr)
+	if !ok || f.Sel.Name != "Unlock" {
+		return false
+	}
+	_, promoted := f.X.(*ast.Ident)
+	return promoted
+}
+
+// Stage 10: shards embed a mutex, let go by defer, promoted.
+func TestShardsEmbedAMutex(t *testing.T) {
+	if !has(typeOf(t, "table", "shard"), embeds) {
+		t.Error("a shard embeds no mutex")
+	}
+	for _, name := range []string{"Insert", "Get", "Put", "Remove", "Ever", "IDs", "entries"} {
+		if !has(function(t, "table", name).Body, isUnlockDeferred) {
+			t.Errorf("%s of table lets no lock go by defer", name)
+		}
+	}
+}
+
+// Stage 10: how many there are is an atomic number; who is kept is asked of a closure; tables are generic.
+func TestTablesAreGenericAndCountAtomically(t *testing.T) {
+	if !has(typeOf(t, "table", "places"), ofLibrary("atomic", "Int64")) {
+		t.Error("how many there are isn't an atomic number")
+	}
+	isFunction := func(n ast.Node) bool {
+		_, ok := n.(*ast.FuncType)
+		return ok
+	}
+	where := function(t, "table", "Where")
+	if !has(where.Type.Params, isFunction) || !has(where.Body, calling("keep")) {
+		t.Error("Where asks no closure")
+	}
+	generic := false
+	for _, s := range sources(t, token.NewFileSet(), "table") {
+		generic = generic || has(s.file, genericType("Table"))
+	}
+	if !generic || function(t, "table", "New").Type.TypeParams == nil {
+		t.Error("Table isn't generic")
+	}
+}
